@@ -1,0 +1,1 @@
+"""Idleclauses: which clauses no refutation can use."""

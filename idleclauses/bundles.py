@@ -1,0 +1,84 @@
+"""BUNDLES of CLAUSES, and what becomes of them."""
+
+from idleclauses.errors import BadBundle, BadClause, BadLot, BadNumber, TooMany
+from idleclauses.forms import MOST_CLAUSES, gathered, is_index, is_literal_row, is_lot, is_names
+
+
+def need_bundle(thing):
+    """Itself, if it is a BUNDLE."""
+    if not isinstance(thing, tuple) or len(thing) != 2:
+        raise BadBundle("form")
+    names, clauses = thing
+    if not is_names(names):
+        raise BadBundle("names")
+    if not isinstance(clauses, tuple) or len(clauses) > MOST_CLAUSES:
+        raise BadBundle("clauses")
+    wrong = _first_wrong(names, clauses)
+    if wrong is not None:
+        raise BadBundle(wrong)
+    return thing
+
+
+def _first_wrong(names, clauses):
+    """The number of the first thing that is no CLAUSE, or out of order, or None."""
+    for at, clause in enumerate(clauses):
+        if not is_literal_row(names, clause):
+            return at
+        if at > 0 and clause <= clauses[at - 1]:
+            return at
+    return None
+
+
+def need_clause(bundle, thing):
+    """Itself, if it is a CLAUSE of the names of the BUNDLE."""
+    names, _ = need_bundle(bundle)
+    if not is_literal_row(names, thing):
+        raise BadClause(thing)
+    return thing
+
+
+def need_lot(bundle, thing):
+    """Itself, if it is a LOT of the names of the BUNDLE."""
+    names, _ = need_bundle(bundle)
+    if not is_lot(names, thing):
+        raise BadLot(thing)
+    return thing
+
+
+def need_number(bundle, thing):
+    """Itself, if it is the number of a CLAUSE of the BUNDLE."""
+    _, clauses = need_bundle(bundle)
+    if not is_index(len(clauses), thing):
+        raise BadNumber(thing)
+    return thing
+
+
+def crossed(bundle, lot):
+    """The BUNDLE CROSSED by a LOT: its names struck out, and () left out."""
+    need_lot(bundle, lot)
+    names, clauses = bundle
+    shorter = [_without_names(clause, lot) for clause in clauses]
+    return gathered(names, [clause for clause in shorter if clause != ()])
+
+
+def _without_names(clause, lot):
+    """The CLAUSE of the LITERALS whose NAMES are not in the LOT."""
+    return tuple([literal for literal in clause if abs(literal) not in lot])
+
+
+def without(bundle, number):
+    """The BUNDLE without the CLAUSE of this number."""
+    need_number(bundle, number)
+    names, clauses = bundle
+    return names, clauses[:number] + clauses[number + 1:]
+
+
+def put_to(bundle, clause):
+    """The BUNDLE with a further CLAUSE; itself if the CLAUSE is there."""
+    need_clause(bundle, clause)
+    names, clauses = bundle
+    if clause in clauses:
+        return bundle
+    if len(clauses) >= MOST_CLAUSES:
+        raise TooMany(MOST_CLAUSES)
+    return gathered(names, [*clauses, clause])

@@ -1,0 +1,46 @@
+"""Forms of the document that any value may be asked for, and BUNDLES made in form."""
+
+MOST_NAMES = 7
+MOST_CLAUSES = 16
+
+
+def is_integer(thing):
+    """Whether it is an integer, True and False not being integers."""
+    return isinstance(thing, int) and not isinstance(thing, bool)
+
+
+def is_names(thing):
+    """Whether it is NAMES: how many names a BUNDLE may have."""
+    return is_integer(thing) and 1 <= thing <= MOST_NAMES
+
+
+def is_literal(names, thing):
+    """Whether it is a LITERAL of these NAMES."""
+    return is_integer(thing) and 1 <= abs(thing) <= names
+
+
+def is_literal_row(names, thing):
+    """Whether it is a tuple of LITERALS whose NAMES ascend: a CLAUSE, or a SETTING."""
+    if not isinstance(thing, tuple):
+        return False
+    last = 0
+    for literal in thing:
+        if not is_literal(names, literal) or abs(literal) <= last:
+            return False
+        last = abs(literal)
+    return True
+
+
+def is_lot(names, thing):
+    """Whether it is a LOT: an ascending tuple of names."""
+    return is_literal_row(names, thing) and all([name > 0 for name in thing])
+
+
+def is_index(many, thing):
+    """Whether it is a number of one of so many things."""
+    return is_integer(thing) and 0 <= thing < many
+
+
+def gathered(names, clauses):
+    """The BUNDLE of these CLAUSES, ascending, of alike ones one."""
+    return names, tuple(sorted(set(clauses)))
