@@ -1,12 +1,14 @@
 """BUNDLES of CLAUSES, and what becomes of them."""
 
 from idleclauses.errors import BadBundle, BadClause, BadLot, BadNumber, TooMany
-from idleclauses.forms import MOST_CLAUSES, gathered, is_index, is_literal_row, is_lot, is_names
+from idleclauses.forms import (
+    MOST_CLAUSES, gathered, is_index, is_literal_row, is_lot, is_names, is_pair,
+)
 
 
 def need_bundle(thing):
     """Itself, if it is a BUNDLE."""
-    if not isinstance(thing, tuple) or len(thing) != 2:
+    if not is_pair(thing):
         raise BadBundle("form")
     names, clauses = thing
     if not is_names(names):
@@ -57,11 +59,11 @@ def crossed(bundle, lot):
     """The BUNDLE CROSSED by a LOT: its names struck out, and () left out."""
     need_lot(bundle, lot)
     names, clauses = bundle
-    shorter = [_without_names(clause, lot) for clause in clauses]
+    shorter = [without_names(clause, lot) for clause in clauses]
     return gathered(names, [clause for clause in shorter if clause != ()])
 
 
-def _without_names(clause, lot):
+def without_names(clause, lot):
     """The CLAUSE of the LITERALS whose NAMES are not in the LOT."""
     return tuple([literal for literal in clause if abs(literal) not in lot])
 

@@ -19,6 +19,11 @@ def is_literal(names, thing):
     return is_integer(thing) and 1 <= abs(thing) <= names
 
 
+def is_name(names, thing):
+    """Whether it is a name of these NAMES."""
+    return is_literal(names, thing) and thing > 0
+
+
 def is_literal_row(names, thing):
     """Whether it is a tuple of LITERALS whose NAMES ascend: a CLAUSE, or a SETTING."""
     if not isinstance(thing, tuple):
@@ -39,6 +44,26 @@ def is_lot(names, thing):
 def is_index(many, thing):
     """Whether it is a number of one of so many things."""
     return is_integer(thing) and 0 <= thing < many
+
+
+def is_pair(thing):
+    """Whether it is a pair."""
+    return isinstance(thing, tuple) and len(thing) == 2
+
+
+def is_worded_pair(words, thing):
+    """Whether it is a pair with one of these words first."""
+    return is_pair(thing) and isinstance(thing[0], str) and thing[0] in words
+
+
+def names_of(rows):
+    """The LOT of all NAMES of the LITERALS in tuples of LITERALS."""
+    return tuple(sorted({abs(literal) for row in rows for literal in row}))
+
+
+def row_of(literals):
+    """The tuple of LITERALS of unlike NAMES, as a CLAUSE or a SETTING has them."""
+    return tuple(sorted(literals, key=abs))
 
 
 def gathered(names, clauses):

@@ -45,9 +45,7 @@ def is_tidy(bundle, setting):
 def meeting_setting(bundle):
     """A whole SETTING that meets all CLAUSES of the BUNDLE, or None."""
     names, clauses = need_bundle(bundle)
-    missed = 0
-    for clause in clauses:
-        missed = missed | missed_codes(names, clause)
+    missed = bits_together([missed_codes(names, clause) for clause in clauses])
     for code in range(1 << names):
         if not missed >> code & 1:
             return whole_setting(names, code)
@@ -64,6 +62,14 @@ def missed_codes(names, clause):
             bits = bits << further
         elif name not in clause:
             bits = bits | bits << further
+    return bits
+
+
+def bits_together(numbers):
+    """The integer that has all bits of these ones."""
+    bits = 0
+    for number in numbers:
+        bits = bits | number
     return bits
 
 

@@ -4,7 +4,7 @@ import itertools
 import random
 import unittest
 
-from idleclauses.errors import BadBundle
+from idleclauses.errors import BadBundle, BadPaper
 
 
 class Plain:
@@ -14,12 +14,25 @@ class Plain:
 PLAIN = Plain()
 
 
+class Agreeing:
+    """An object that is equal to everything, and so to each word and each number."""
+
+    def __eq__(self, other):
+        return True
+
+    def __hash__(self):
+        return 1
+
+
+AGREEING = Agreeing()
+
+
 def odd_things():
     """Things of many kinds, none of them a tuple or an integer; made anew each time."""
     return [
         None, True, False, "", "1", "names", "clause\n", b"", b"\x01", [], [1], [1, 2], [[1]],
         [3, [[1]]], [3, ()], {}, {1: 2}, {"names": 3}, set(), {1}, frozenset([1]), range(3), 1j,
-        ..., NotImplemented, PLAIN, Plain, int, len, lambda: 1, ValueError("x"), iter([1]),
+        ..., NotImplemented, PLAIN, AGREEING, Plain, int, len, lambda: 1, ValueError("x"), iter([1]),
     ]
 
 
@@ -81,6 +94,37 @@ def some_bundles(many):
     return found
 
 
+def layered_bundles(many):
+    """BUNDLES at odds name by name, so that later names stand beside earlier ones; and more."""
+    chance = random.Random(7)
+    found = []
+    for k in range(many):
+        names = 3 + k % 5
+        order = chance.sample(range(1, names + 1), names)
+        clauses = set(chance.sample(all_rows(names), k % 3))
+        for at in range(chance.randint(1, names)):
+            for sign in (1, -1):
+                ahead = chance.sample(order[:at], chance.randint(0, at))
+                row = [sign * order[at]] + [name * chance.choice((1, -1)) for name in ahead]
+                clauses.add(tuple(sorted(row, key=abs)))
+        found.append((names, tuple(sorted(clauses))))
+    return found
+
+
+def named_bundles():
+    """BUNDLES for the edges: 1 and 7 names, no CLAUSES, 16 ones, (), several layers."""
+    signs = itertools.product((1, -1), (2, -2), (3, -3), (4, -4))
+    row = [(1,), (-1,)] + [(s * k, s * (k + 1)) for k in range(1, 7) for s in (1, -1)]
+    return [
+        (1, ()), (7, ()), (1, ((),)), (7, ((),)), (1, ((-1,), (1,))), (1, ((), (-1,), (1,))),
+        (7, ((), (1, 2, 3, 4, 5, 6, 7))), (7, ((-7,), (7,))), (7, tuple(sorted(signs))),
+        (7, tuple(sorted(row))), (7, tuple(sorted(row + [(), (-1, 2)]))),
+        (2, ((-1, -2), (-1, 2), (1, -2), (1, 2))), (3, ((-2, 3), (-1, 2), (1, -2), (1, 2))),
+        (4, ((-1,), (-1, -3), (1,), (1, 2), (3, 4))), (5, ((-4, 5), (-2,), (1, 3), (2,), (4, -5))),
+        (3, ((-3,), (-2, 3), (-1, 2), (1, 2), (1, 3))), (3, ((-1, -2), (-1, 2), (1, -2), (3,))),
+    ]
+
+
 def does_touch(setting, clause):
     """A second opinion: whether they have a NAME in common."""
     return not {abs(k) for k in setting}.isdisjoint({abs(k) for k in clause})
@@ -124,6 +168,20 @@ class Case(unittest.TestCase):
         with self.assertRaises(kind) as caught:
             action(bundle, thing, *rest)
         self.assertIs(caught.exception.given, thing)
+
+    def assert_verdict(self, verdict, action, *given):
+        """The call tells a result, or refuses a PAPER for a part: ("told", ..) or ("part", ..)."""
+        word, wanted = verdict
+        if word == "told":
+            self.assert_told(wanted, action, *given)
+        else:
+            self.assert_refused(BadPaper, "part", wanted, action, *given)
+
+    def assert_same_again(self, action, *given):
+        """What a call tells; it tells the same the second time, and changes nothing."""
+        found = action(*given)
+        self.assert_told(found, action, *given)
+        return found
 
     def assert_needs_bundle(self, action, *rest):
         """What is no BUNDLE is refused, whatever stands behind it."""

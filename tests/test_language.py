@@ -13,6 +13,14 @@ INTERFACE = {
     ),
     "bundles": "need_bundle need_clause crossed without put_to",
     "settings": "need_setting touched met is_tidy meeting_setting is_at_odds",
+    "chains": "need_chain clauses_of uses refutation",
+    "kernels": (
+        "kernel used_paper check_used kernel_paper check_kernel always_used single_chain"
+    ),
+    "tidy": "all_tidy least_tidy greatest_tidy followed_by struck_by peeled",
+    "readings": (
+        "read_by is_plain plain_reading all_plain nearest_reading reading_paper check_reading"
+    ),
 }
 BUILTINS = (
     "len range enumerate zip min max sum abs sorted reversed int str bool bytes list tuple dict set "
