@@ -1,8 +1,8 @@
 """BUNDLES of CLAUSES, and what becomes of them."""
 
-from idleclauses.errors import BadBundle, BadClause, BadLot, BadNumber, TooMany
+from idleclauses.errors import BadBundle, BadClause, BadLot, BadNumber, BadNumbers, TooMany
 from idleclauses.forms import (
-    MOST_CLAUSES, gathered, is_index, is_literal_row, is_lot, is_names, is_pair,
+    MOST_CLAUSES, gathered, is_index, is_literal_row, is_lot, is_names, is_numbers, is_pair,
 )
 
 
@@ -52,6 +52,14 @@ def need_number(bundle, thing):
     _, clauses = need_bundle(bundle)
     if not is_index(len(clauses), thing):
         raise BadNumber(thing)
+    return thing
+
+
+def need_numbers(bundle, thing):
+    """Itself, if they are NUMBERS: an ascending tuple of numbers of CLAUSES of the BUNDLE."""
+    _, clauses = need_bundle(bundle)
+    if not is_numbers(len(clauses), thing):
+        raise BadNumbers(thing)
     return thing
 
 

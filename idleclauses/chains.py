@@ -68,6 +68,13 @@ def uses(bundle, chain):
     return tuple(sorted({step[1] for step in needed if step[0] == "clause"}))
 
 
+def refutation_uses(bundle, thing):
+    """The ascending numbers of what any thing uses, if it is a REFUTATION, or None."""
+    if not is_refutation(bundle, thing):
+        return None
+    return uses(bundle, thing)
+
+
 def is_refutation(bundle, thing):
     """Whether any thing is a REFUTATION of the BUNDLE."""
     try:

@@ -46,6 +46,18 @@ def is_index(many, thing):
     return is_integer(thing) and 0 <= thing < many
 
 
+def is_numbers(many, thing):
+    """Whether it is an ascending tuple of numbers of some of so many things."""
+    if not isinstance(thing, tuple):
+        return False
+    last = -1
+    for number in thing:
+        if not is_index(many, number) or number <= last:
+            return False
+        last = number
+    return True
+
+
 def is_pair(thing):
     """Whether it is a pair."""
     return isinstance(thing, tuple) and len(thing) == 2

@@ -4,24 +4,30 @@ A layer is a least lot of CLAUSES at odds of the BUNDLE, without the names of th
 """
 
 from idleclauses.bundles import crossed, without_names
+from idleclauses.codes import ALL_CODES, missed_codes
 from idleclauses.forms import names_of
 from idleclauses.proofs import Proof, led_under
-from idleclauses.settings import bits_together, is_at_odds, meeting_setting, missed_codes
+from idleclauses.settings import meeting_setting
 
 
-def least_part(bundle):
-    """The numbers of CLAUSES of a BUNDLE at odds that are at odds, but not without any of them.
+def least_part(missed):
+    """The numbers of CLAUSES that are at odds, but not without any of them; None without such.
 
-    From the last CLAUSE to the first one each is left out, if the others that are left are so.
+    Of each CLAUSE the missed codes are told. From the last one to the first one each is left
+    out, if the others that are left are at odds.
     """
-    names, clauses = bundle
-    missed = [missed_codes(names, clause) for clause in clauses]
-    left = list(range(len(clauses)))
-    for number in reversed(range(len(clauses))):
-        fewer = [other for other in left if other != number]
-        if bits_together([missed[other] for other in fewer]) == (1 << (1 << names)) - 1:
-            left = fewer
-    return left
+    ahead = [0]
+    for codes in missed:
+        ahead.append(ahead[-1] | codes)
+    if ahead[-1] != ALL_CODES:
+        return None
+    kept = 0
+    part = []
+    for number in reversed(range(len(missed))):
+        if ahead[number] | kept != ALL_CODES:
+            kept |= missed[number]
+            part.append(number)
+    return part[::-1]
 
 
 def layers_of(bundle):
@@ -33,12 +39,19 @@ def layers_of(bundle):
     layers = []
     lot = ()
     left = crossed(bundle, lot)
-    while is_at_odds(left):
-        part = least_part(left)
+    part = _least_part_of(left)
+    while part is not None:
         layers.append((lot, part))
         lot = names_of([lot, *_picked(left, part)])
         left = crossed(bundle, lot)
+        part = _least_part_of(left)
     return layers, lot
+
+
+def _least_part_of(bundle):
+    """The numbers of a least part at odds of the CLAUSES of a BUNDLE, or None."""
+    _, clauses = bundle
+    return least_part([missed_codes(clause) for clause in clauses])
 
 
 def _picked(bundle, numbers):

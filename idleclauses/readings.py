@@ -3,6 +3,7 @@
 from idleclauses.bundles import need_bundle, need_lot
 from idleclauses.errors import BadPaper
 from idleclauses.forms import gathered, is_index, is_literal, is_lot, is_pair, is_worded_pair
+from idleclauses.ways import shortest_way
 
 
 def read_by(bundle, lot):
@@ -89,32 +90,11 @@ def _ring(bundle):
     """
     names, clauses = bundle
     for name in range(1, names + 1):
-        there = _way(clauses, name, -name)
-        back = _way(clauses, -name, name)
+        there = shortest_way(clauses, name, -name)
+        back = shortest_way(clauses, -name, name)
         if there is not None and back is not None:
             return there + back
     return None
-
-
-def _way(clauses, start, goal):
-    """As few pairs as lead from a LITERAL to another one, or None."""
-    ways = {start: ()}
-    newest = [start]
-    while newest and goal not in ways:
-        further = []
-        for literal in newest:
-            for follower, number in _followers(clauses, literal):
-                if follower not in ways:
-                    ways[follower] = (*ways[literal], (literal, number))
-                    further.append(follower)
-        newest = further
-    return ways.get(goal)
-
-
-def _followers(clauses, literal):
-    """Pairs of a LITERAL that has to be UP if this one is, and the number of the CLAUSE."""
-    return [(-other, at) for at, clause in enumerate(clauses) if literal in clause
-            for other in clause if other != literal]
 
 
 def check_reading(bundle, paper):

@@ -1,6 +1,7 @@
 """SETTINGS of names: what they touch, what they meet, and whether any meets all."""
 
 from idleclauses.bundles import need_bundle
+from idleclauses.codes import missed_by_clauses, whole_setting_beside
 from idleclauses.errors import BadSetting
 from idleclauses.forms import is_literal_row
 
@@ -45,37 +46,7 @@ def is_tidy(bundle, setting):
 def meeting_setting(bundle):
     """A whole SETTING that meets all CLAUSES of the BUNDLE, or None."""
     names, clauses = need_bundle(bundle)
-    missed = bits_together([missed_codes(names, clause) for clause in clauses])
-    for code in range(1 << names):
-        if not missed >> code & 1:
-            return whole_setting(names, code)
-    return None
-
-
-def missed_codes(names, clause):
-    """The codes of the whole SETTINGS that do not meet a CLAUSE, as the bits of an integer."""
-    bits = 1
-    for name in range(1, names + 1):
-        # The codes of the names ahead are all less than this one, and with it this name is true.
-        further = 1 << name - 1
-        if -name in clause:
-            bits = bits << further
-        elif name not in clause:
-            bits = bits | bits << further
-    return bits
-
-
-def bits_together(numbers):
-    """The integer that has all bits of these ones."""
-    bits = 0
-    for number in numbers:
-        bits = bits | number
-    return bits
-
-
-def whole_setting(names, code):
-    """The whole SETTING of a code: name 1 is true if its lowest bit is 1, and so on."""
-    return tuple([name if code >> name - 1 & 1 else -name for name in range(1, names + 1)])
+    return whole_setting_beside(names, missed_by_clauses(clauses))
 
 
 def is_at_odds(bundle):

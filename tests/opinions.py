@@ -242,6 +242,7 @@ def instead_of(thing):
         yield from (thing + 1, thing - 1, -thing, str(thing))
     if type(thing) is str:
         yield from (thing + " ", thing.upper(), thing.encode(), "used", "tidy", "plain", "ring")
+        yield from ("halves", "clash", "met", "falls", "least", "spare")
     if type(thing) is tuple:
         yield from (list(thing), thing[::-1], dict(enumerate(thing)), str(thing))
 

@@ -21,6 +21,12 @@ INTERFACE = {
     "readings": (
         "read_by is_plain plain_reading all_plain nearest_reading reading_paper check_reading"
     ),
+    "halves": "are_halves all_halves rounded halves_paper check_halves tidy_by",
+    "following": "followed answer_paper check_answer least_setting",
+    "matchings": (
+        "greatest_matching setting_by more_of excess excess_paper check_excess"
+    ),
+    "servedlots": "is_served greatest_served residue served_paper check_served",
 }
 BUILTINS = (
     "len range enumerate zip min max sum abs sorted reversed int str bool bytes list tuple dict set "
