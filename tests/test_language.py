@@ -26,6 +26,9 @@ INTERFACE = {
     "matchings": (
         "greatest_matching setting_by more_of excess excess_paper check_excess"
     ),
+    "leastlots": "is_least_lot first_least least_lots least_paper check_least least_mores",
+    "plainlots": "put does_end_well plain_row plain_lots",
+    "counts": "are_clashing count count_paper check_count",
     "servedlots": "is_served greatest_served residue served_paper check_served",
 }
 BUILTINS = (
