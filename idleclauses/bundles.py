@@ -65,7 +65,11 @@ def need_numbers(bundle, thing):
 
 def crossed(bundle, lot):
     """The BUNDLE CROSSED by a LOT: its names struck out, and () left out."""
-    need_lot(bundle, lot)
+    return crossed_by(bundle, need_lot(bundle, lot))
+
+
+def crossed_by(bundle, lot):
+    """What is a BUNDLE CROSSED by what is a LOT."""
     names, clauses = bundle
     shorter = [without_names(clause, lot) for clause in clauses]
     return gathered(names, [clause for clause in shorter if clause != ()])

@@ -1,92 +1,92 @@
 """CHAINS: where they lead, which CLAUSES they use, and those that lead to ()."""
 
 from idleclauses.bundles import need_bundle
+from idleclauses.codes import LITERAL_BITS, bits_of, contrary_bits, missed_codes, row_of_bits
 from idleclauses.errors import BadChain
 from idleclauses.forms import is_index, is_name
-from idleclauses.proofs import joined, needed_steps, refutation_by
-from idleclauses.settings import is_at_odds
+from idleclauses.layers import least_part
+from idleclauses.proofs import needed_steps, refutation_by
 
 MOST_STEPS = 2000
 
 
 def need_chain(bundle, thing):
     """Itself, if it is a CHAIN of the BUNDLE."""
-    clauses_of(bundle, thing)
+    led_bits(need_bundle(bundle), thing)
     return thing
 
 
 def clauses_of(bundle, chain):
     """The CLAUSES of the STEPS of a CHAIN."""
-    need_bundle(bundle)
-    if not isinstance(chain, tuple) or not 1 <= len(chain) <= MOST_STEPS:
+    return tuple([row_of_bits(bits) for bits in led_bits(need_bundle(bundle), chain)])
+
+
+def led_bits(bundle, thing):
+    """The bits of the CLAUSES of the STEPS of a CHAIN of what is a BUNDLE."""
+    names, clauses = bundle
+    if not isinstance(thing, tuple) or not 1 <= len(thing) <= MOST_STEPS:
         raise BadChain(None)
-    found = []
-    for at, step in enumerate(chain):
-        clause = _clause_of(bundle, found, step)
-        if clause is None:
+    rows = [bits_of(clause) for clause in clauses]
+    led = []
+    for at, step in enumerate(thing):
+        bits = _bits_of_step(names, rows, led, step)
+        if bits is None:
             raise BadChain(at)
-        found.append(clause)
-    return tuple(found)
+        led.append(bits)
+    return led
 
 
-def _clause_of(bundle, ahead, step):
-    """The CLAUSE of a STEP behind STEPS with the CLAUSES ahead, or None if it is no such STEP."""
+def _bits_of_step(names, rows, led, step):
+    """The bits of the CLAUSE of a STEP behind STEPS with the bits led, or None if it is no STEP."""
     if not isinstance(step, tuple) or step == () or not isinstance(step[0], str):
         return None
-    if step[0] == "clause":
-        return _clause_of_number(bundle, step)
-    if step[0] == "by":
-        return _clause_by(bundle, ahead, step)
+    if step[0] == "clause" and len(step) == 2 and is_index(len(rows), step[1]):
+        return rows[step[1]]
+    if step[0] != "by" or len(step) != 4:
+        return None
+    _, one, other, name = step
+    if is_index(len(led), one) and is_index(len(led), other) and is_name(names, name):
+        return _bits_by(led[one], led[other], name)
     return None
 
 
-def _clause_of_number(bundle, step):
-    """The CLAUSE of a STEP with the word "clause", or None."""
-    _, clauses = bundle
-    if len(step) != 2 or not is_index(len(clauses), step[1]):
+def _bits_by(one, other, name):
+    """The bits of the CLAUSE that two CLAUSES have by a name, or None."""
+    if not one & LITERAL_BITS[name] or not other & LITERAL_BITS[-name]:
         return None
-    return clauses[step[1]]
-
-
-def _clause_by(bundle, ahead, step):
-    """The CLAUSE of a STEP with the word "by", or None."""
-    if len(step) != 4:
+    left = one & ~LITERAL_BITS[name]
+    if contrary_bits(left) & other:
         return None
-    names, _ = bundle
-    _, one, other, name = step
-    if not is_index(len(ahead), one) or not is_index(len(ahead), other):
-        return None
-    if not is_name(names, name):
-        return None
-    return joined(ahead[one], ahead[other], name)
+    return left | other & ~LITERAL_BITS[-name]
 
 
 def uses(bundle, chain):
     """The ascending numbers of the CLAUSES that a CHAIN uses."""
     need_chain(bundle, chain)
+    return _uses_of(chain)
+
+
+def _uses_of(chain):
+    """The ascending numbers of the CLAUSES that what is a CHAIN uses."""
     needed = [chain[at] for at in needed_steps(chain)]
     return tuple(sorted({step[1] for step in needed if step[0] == "clause"}))
 
 
 def refutation_uses(bundle, thing):
-    """The ascending numbers of what any thing uses, if it is a REFUTATION, or None."""
-    if not is_refutation(bundle, thing):
-        return None
-    return uses(bundle, thing)
-
-
-def is_refutation(bundle, thing):
-    """Whether any thing is a REFUTATION of the BUNDLE."""
+    """The ascending numbers of what any thing uses, if it is a REFUTATION of the BUNDLE, or None."""
     try:
-        found = clauses_of(bundle, thing)
+        led = led_bits(bundle, thing)
     except BadChain:
-        return False
-    return found[-1] == ()
+        return None
+    if led[-1] != 0:
+        return None
+    return _uses_of(thing)
 
 
 def refutation(bundle):
     """A REFUTATION of the BUNDLE, or None."""
     _, clauses = need_bundle(bundle)
-    if not is_at_odds(bundle):
+    part = least_part([missed_codes(clause) for clause in clauses])
+    if part is None:
         return None
-    return refutation_by(bundle, list(range(len(clauses))))
+    return refutation_by(clauses, part)

@@ -5,7 +5,7 @@ The code of a whole SETTING: name 1 is true if its lowest bit is 1, and so on. C
 those of seven names, whichever a BUNDLE has.
 """
 
-ALL_CODES = (1 << 128) - 1
+ALL_CODES = 0xFFFFFFFFFFFFFFFFFFFFFFFFFFFFFFFF
 
 # In the next two a LITERAL is an index; those of contrary ones count from the end.
 LITERAL_BITS = (0, 1, 2, 4, 8, 16, 32, 64, 16384, 8192, 4096, 2048, 1024, 512, 256)
@@ -42,11 +42,6 @@ def bits_of(literals):
 def contrary_bits(bits):
     """The bits of the contrary LITERALS."""
     return bits >> 8 | (bits & 127) << 8
-
-
-def name_bits(bits):
-    """The bits of the NAMES of these LITERALS."""
-    return (bits >> 8 | bits) & 127
 
 
 def row_of_bits(bits):

@@ -21,7 +21,7 @@ def is_literal(names, thing):
 
 def is_name(names, thing):
     """Whether it is a name of these NAMES."""
-    return is_literal(names, thing) and thing > 0
+    return is_integer(thing) and 1 <= thing <= names
 
 
 def is_literal_row(names, thing):
@@ -30,9 +30,13 @@ def is_literal_row(names, thing):
         return False
     last = 0
     for literal in thing:
-        if not is_literal(names, literal) or abs(literal) <= last:
+        # Asked for here, since this is asked most often: True is no LITERAL, though it is 1.
+        if not isinstance(literal, int) or literal is True:
             return False
-        last = abs(literal)
+        name = abs(literal)
+        if name <= last or name > names:
+            return False
+        last = name
     return True
 
 
@@ -43,7 +47,7 @@ def is_lot(names, thing):
 
 def is_index(many, thing):
     """Whether it is a number of one of so many things."""
-    return is_integer(thing) and 0 <= thing < many
+    return isinstance(thing, int) and not isinstance(thing, bool) and 0 <= thing < many
 
 
 def is_numbers(many, thing):

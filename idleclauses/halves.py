@@ -1,7 +1,7 @@
 """WEIGHINGS and HALVES: names weighed so that no CLAUSE weighs too much, and the PAPERS on it."""
 
 from idleclauses.bundles import need_bundle
-from idleclauses.codes import LITERAL_BITS, bits_of, row_of_bits
+from idleclauses.codes import LITERALS, LITERAL_BITS, bits_of, row_of_bits
 from idleclauses.errors import BadHalves, BadPaper, BadWeighing
 from idleclauses.forms import is_index, is_integer, is_pair, is_worded_pair
 from idleclauses.ways import reached_bits, shortest_way
@@ -102,8 +102,7 @@ def _hefts_by(clauses, reached):
     weighs half of D or more. So no CLAUSE may have three such LITERALS: twice this CLAUSE, and
     once each CLAUSE of the three ways, clash. Without such a CLAUSE there are HALVES.
     """
-    heavy = bits_of([literal for literal, bits in reached.items()
-                     if reached[-literal] & LITERAL_BITS[literal]])
+    heavy = bits_of([literal for literal in LITERALS if reached[-literal] & LITERAL_BITS[literal]])
     for number, clause in enumerate(clauses):
         three = [literal for literal in clause if heavy & LITERAL_BITS[literal]][:3]
         if len(three) == 3:

@@ -1,13 +1,12 @@
-"""Which names USED CLAUSES have, found layer by layer, and CHAINS to each of their LITERALS.
+"""Which CLAUSES are USED, found layer by layer, and CHAINS to each LITERAL of their names.
 
-A layer is a least lot of CLAUSES at odds of the BUNDLE, without the names of the layers ahead.
+A layer is a least lot at odds of the CLAUSES without the names of the layers ahead.
 """
 
-from idleclauses.bundles import crossed, without_names
-from idleclauses.codes import ALL_CODES, missed_codes
+from idleclauses.bundles import without_names
+from idleclauses.codes import ALL_CODES, FALSE_CODES, together, whole_setting_beside
 from idleclauses.forms import names_of
-from idleclauses.proofs import Proof, led_under
-from idleclauses.settings import meeting_setting
+from idleclauses.proofs import Fall, Proof
 
 
 def least_part(missed):
@@ -30,102 +29,119 @@ def least_part(missed):
     return part[::-1]
 
 
-def layers_of(bundle):
-    """The layers, and the LOT of the names of all USED CLAUSES.
+def least_part_with(missed, number):
+    """The same with the CLAUSE of this number among them; None where none is found so."""
+    ahead = [missed[number]]
+    for codes in missed:
+        ahead.append(ahead[-1] | codes)
+    if ahead[-1] != ALL_CODES:
+        return None
+    kept = 0
+    part = [number]
+    for other in reversed(range(len(missed))):
+        if other != number and ahead[other] | kept != ALL_CODES:
+            kept |= missed[other]
+            part.append(other)
+    if kept == ALL_CODES:
+        return None
+    return sorted(part)
 
-    A layer is a pair: the LOT of the names of the layers ahead, and its numbers of CLAUSES of the
-    BUNDLE that is CROSSED by this LOT.
+
+class Layers:
+    """The layers of CLAUSES, one behind the other, and what is left behind the last one.
+
+    Each one has the LOT of the names of the layers ahead, the numbers of its CLAUSES, and the LOT
+    with its own names, too. Behind the last one the LOT is that of all names of USED CLAUSES;
+    used are the numbers of these, left those of all others.
     """
-    layers = []
-    lot = ()
-    left = crossed(bundle, lot)
-    part = _least_part_of(left)
-    while part is not None:
-        layers.append((lot, part))
-        lot = names_of([lot, *_picked(left, part)])
-        left = crossed(bundle, lot)
-        part = _least_part_of(left)
-    return layers, lot
+
+    def __init__(self, clauses):
+        self.clauses = clauses
+        self.layers = []
+        self.used = []
+        self.left = list(range(len(clauses)))
+        self.cross(())
+        part = least_part(self.codes)
+        while part is not None:
+            ahead = self.lot
+            numbers = [self.left[at] for at in part]
+            self.cross(names_of([ahead, *[clauses[number] for number in numbers]]))
+            self.layers.append((ahead, numbers, self.lot))
+            part = least_part(self.codes)
+        self.used = sorted(self.used)
+
+    def cross(self, lot):
+        """Leaves the names of a LOT out of all CLAUSES; codes are those that miss what is left."""
+        false = list(FALSE_CODES)
+        for name in lot:
+            false[name] = false[-name] = ALL_CODES
+        numbers = self.left
+        self.lot = lot
+        self.left = []
+        self.codes = []
+        for number in numbers:
+            codes = ALL_CODES
+            for literal in self.clauses[number]:
+                codes &= false[literal]
+            if codes == ALL_CODES:
+                self.used.append(number)
+            else:
+                self.left.append(number)
+                self.codes.append(codes)
+
+    def rest_setting(self, names):
+        """A SETTING that meets each CLAUSE which is not USED, by names of no USED one alone."""
+        setting = whole_setting_beside(names, together(self.codes))
+        further = names_of([self.clauses[number] for number in self.left])
+        return tuple([literal for literal in setting
+                      if abs(literal) in further and abs(literal) not in self.lot])
 
 
-def _least_part_of(bundle):
-    """The numbers of a least part at odds of the CLAUSES of a BUNDLE, or None."""
-    _, clauses = bundle
-    return least_part([missed_codes(clause) for clause in clauses])
+class Singles(Proof):
+    """A Proof with STEPS that have one LITERAL alone, of the names of USED CLAUSES, as asked for."""
 
+    def __init__(self, layers):
+        Proof.__init__(self, layers.clauses)
+        self.clauses = layers.clauses
+        self.layers = layers.layers
+        self.falls = {}
+        self.singles = {}
+        self.brought = {}
 
-def _picked(bundle, numbers):
-    """The CLAUSES with these numbers."""
-    _, clauses = bundle
-    return [clauses[number] for number in numbers]
+    def single(self, literal):
+        """The number of a STEP with the CLAUSE of this LITERAL alone.
 
+        It is where the LITERAL is false that some CLAUSE falls. As the CLAUSES of a layer are at
+        odds just all together, one that has it is used; as no new STEP is by its name, it stays.
+        """
+        if literal not in self.singles:
+            fall = self.fall_of(abs(literal))
+            names = [name for name in fall.names if name != abs(literal)]
+            self.singles[literal] = self.led_under(fall, fall.every & ~fall.having[-literal], names)
+        return self.singles[literal]
 
-def used_names(bundle):
-    """The LOT of the names of all USED CLAUSES."""
-    _, lot = layers_of(bundle)
-    return lot
+    def fall_of(self, name):
+        """The Fall of the layer to which a name belongs."""
+        at = 0
+        while name not in self.layers[at][2]:
+            at += 1
+        if at not in self.falls:
+            ahead, numbers, _ = self.layers[at]
+            rows = [without_names(self.clauses[number], ahead) for number in numbers]
+            self.falls[at] = Fall(rows, numbers, ahead)
+        return self.falls[at]
 
+    def step_of(self, fall, place):
+        """The number of a STEP with the CLAUSE at a place, which is a bit."""
+        number = fall.numbers[place.bit_length() - 1]
+        if number not in self.brought:
+            self.brought[number] = self.led_out(number, fall.lot)
+        return self.brought[number]
 
-def of_names(bundle, lot):
-    """The ascending numbers of the CLAUSES that have no names but those of the LOT."""
-    _, clauses = bundle
-    return tuple([at for at, clause in enumerate(clauses) if without_names(clause, lot) == ()])
-
-
-def rest_setting(bundle, lot):
-    """A SETTING that meets each CLAUSE which has another name, by such other names alone.
-
-    There is one where the BUNDLE CROSSED by the LOT is not at odds.
-    """
-    left = crossed(bundle, lot)
-    _, clauses = left
-    further = names_of(clauses)
-    return tuple([literal for literal in meeting_setting(left) if abs(literal) in further])
-
-
-def proof_of_singles(bundle):
-    """A Proof, and the numbers of its STEPS that have one LITERAL alone, by these LITERALS.
-
-    There is one for each LITERAL of each NAME of a USED CLAUSE.
-    """
-    proof = Proof(bundle)
-    singles = {}
-    layers, _ = layers_of(bundle)
-    for lot, part in layers:
-        clauses = _picked(crossed(bundle, lot), part)
-        sources = [led_out(proof, singles, _origin(bundle, lot, clause)) for clause in clauses]
-        singles.update(_singles_of_layer(proof, sources, names_of(clauses)))
-    return proof, singles
-
-
-def _origin(bundle, lot, clause):
-    """The number of the first CLAUSE that is this one without the names of the LOT."""
-    _, clauses = bundle
-    shorter = [without_names(other, lot) for other in clauses]
-    return shorter.index(clause)
-
-
-def _singles_of_layer(proof, sources, names):
-    """The numbers of new STEPS that have one LITERAL of these names alone, by these LITERALS.
-
-    Where a LITERAL is false, those of the sources that do not have its contrary one are at odds.
-    Those without its name are not, as sources are a layer: so one that has the LITERAL is used,
-    and as no new STEP is by its name, the LITERAL stays.
-    """
-    singles = {}
-    for name in names:
-        others = [other for other in names if other != name]
-        for literal in (name, -name):
-            singles[literal] = led_under(proof, sources, [-literal], others)
-    return singles
-
-
-def led_out(proof, singles, step):
-    """The number of a STEP that has the LITERALS of this one without those of names in singles."""
-    literals = proof.clauses[step]
-    for literal in literals:
-        if -literal in singles and literal > 0:
-            step = proof.put_by(step, singles[-literal], literal)
-        elif -literal in singles:
-            step = proof.put_by(singles[-literal], step, -literal)
-    return step
+    def led_out(self, number, lot):
+        """The number of a STEP with a CLAUSE without the names of a LOT."""
+        step = number
+        for literal in self.clauses[number]:
+            if abs(literal) in lot:
+                step = self.put_by(step, self.single(-literal), literal)
+        return step

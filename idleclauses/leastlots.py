@@ -104,16 +104,16 @@ class Search:
 def least_paper(bundle, numbers):
     """The PAPER on whether NUMBERS are a LEAST LOT."""
     missed = _missed_of(bundle, need_numbers(bundle, numbers))
-    names, _ = bundle
+    names, clauses = bundle
     setting = whole_setting_beside(names, together(missed))
     if setting is not None:
         return "met", setting
     others = others_together(missed)
     for number, codes in zip(numbers, others):
         if codes == ALL_CODES:
-            return "spare", number, refutation_by(bundle, _beside(numbers, number))
+            return "spare", number, refutation_by(clauses, _beside(numbers, number))
     settings = [whole_setting_beside(names, codes) for codes in others]
-    return "least", refutation_by(bundle, list(numbers)), tuple(settings)
+    return "least", refutation_by(clauses, list(numbers)), tuple(settings)
 
 
 def _beside(numbers, number):

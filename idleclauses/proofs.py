@@ -1,21 +1,49 @@
 """STEPS that are made one after another, and what leads from CLAUSES at odds to ()."""
 
+from idleclauses.codes import LITERAL_BITS, bits_of
 from idleclauses.forms import row_of
+
+NAMES = (1, 2, 3, 4, 5, 6, 7)
+
+
+class Fall:
+    """CLAUSES that are not met all, and which of them have each LITERAL, by their places as bits.
+
+    They are those of the STEPS with these numbers, without the names of a LOT.
+    """
+
+    def __init__(self, clauses, numbers, lot=()):
+        self.numbers = numbers
+        self.lot = lot
+        self.every = (1 << len(numbers)) - 1
+        # The places of the CLAUSES that have a LITERAL; those of contrary ones count from the end.
+        self.having = [0 for _ in LITERAL_BITS]
+        for at, clause in enumerate(clauses):
+            for literal in clause:
+                self.having[literal] |= 1 << at
+        self.names = [name for name in NAMES if self.having[name] or self.having[-name]]
 
 
 class Proof:
-    """STEPS over a BUNDLE, and their CLAUSES; the first STEPS are its CLAUSES, in their order."""
+    """STEPS over CLAUSES, and the bits of theirs; the first STEPS are the CLAUSES, in their order."""
 
-    def __init__(self, bundle):
-        _, clauses = bundle
+    def __init__(self, clauses):
         self.steps = [("clause", number) for number in range(len(clauses))]
-        self.clauses = list(clauses)
+        self.led = [bits_of(clause) for clause in clauses]
 
-    def put_by(self, one, other, name):
-        """The number of a new STEP by a name, which the first STEP has, the other one contrary."""
-        self.steps.append(("by", one, other, name))
-        self.clauses.append(joined(self.clauses[one], self.clauses[other], name))
+    def put_by(self, one, other, literal):
+        """The number of a new STEP by a LITERAL, which the first STEP has, the other one contrary."""
+        if literal > 0:
+            self.steps.append(("by", one, other, literal))
+        else:
+            self.steps.append(("by", other, one, -literal))
+        both = LITERAL_BITS[literal] | LITERAL_BITS[-literal]
+        self.led.append((self.led[one] | self.led[other]) & ~both)
         return len(self.steps) - 1
+
+    def has(self, step, literal):
+        """Whether the CLAUSE of a STEP has a LITERAL."""
+        return self.led[step] & LITERAL_BITS[literal] != 0
 
     def chain_to(self, last):
         """The CHAIN of those STEPS alone from which this one comes, with itself at the end."""
@@ -23,16 +51,58 @@ class Proof:
         chain = []
         for at in needed_steps(self.steps[:last + 1]):
             places[at] = len(chain)
-            chain.append(_moved(self.steps[at], places))
+            step = self.steps[at]
+            if step[0] == "by":
+                step = "by", places[step[1]], places[step[2]], step[3]
+            chain.append(step)
         return tuple(chain)
 
+    def step_of(self, fall, place):
+        """The number of a STEP with the CLAUSE at a place, which is a bit."""
+        return fall.numbers[place.bit_length() - 1]
 
-def _moved(step, places):
-    """The STEP, where the STEPS ahead have new places."""
-    if step[0] == "clause":
-        return step
-    _, one, other, name = step
-    return "by", places[one], places[other], name
+    def led_under(self, fall, unmet, names):
+        """The number of a STEP whose LITERALS are false on a way that left these names unset.
+
+        It leads there by setting names one after another, till a CLAUSE falls. The CLAUSES that
+        are not met are told; no SETTING of these names meets them all.
+        """
+        once = twice = thrice = 0
+        for name in names:
+            either = fall.having[name] | fall.having[-name]
+            thrice |= twice & either
+            twice |= once & either
+            once |= either
+        fallen = unmet & ~once
+        if fallen:
+            return self.step_of(fall, fallen & -fallen)
+        single = unmet & ~twice
+        if single:
+            return self.led_by_single(fall, unmet, names, single & -single)
+        return self.led_by_turns(fall, unmet, names, unmet & ~thrice)
+
+    def led_by_single(self, fall, unmet, names, place):
+        """The same, where the CLAUSE at a place has a single LITERAL of these names."""
+        literal = [one for name in names for one in (name, -name) if fall.having[one] & place][0]
+        rest = [name for name in names if name != abs(literal)]
+        step = self.led_under(fall, unmet & ~fall.having[literal], rest)
+        if not self.has(step, -literal):
+            return step
+        return self.put_by(self.step_of(fall, place), step, literal)
+
+    def led_by_turns(self, fall, unmet, names, pairs):
+        """The same by a name of both signs, one that CLAUSES with a pair of names have, if any."""
+        signed = [name for name in names if fall.having[name] & unmet and fall.having[-name] & unmet]
+        near = [name for name in signed if (fall.having[name] | fall.having[-name]) & pairs]
+        name = (near or signed)[0]
+        rest = [other for other in names if other != name]
+        where_true = self.led_under(fall, unmet & ~fall.having[name], rest)
+        if not self.has(where_true, -name):
+            return where_true
+        where_false = self.led_under(fall, unmet & ~fall.having[-name], rest)
+        if not self.has(where_false, name):
+            return where_false
+        return self.put_by(where_false, where_true, name)
 
 
 def joined(one, other, name):
@@ -51,35 +121,15 @@ def needed_steps(steps):
     needed = [False for _ in steps]
     needed[-1] = True
     for at in reversed(range(len(steps))):
-        if needed[at] and steps[at][0] == "by":
-            needed[steps[at][1]] = True
-            needed[steps[at][2]] = True
-    return [at for at in range(len(steps)) if needed[at]]
+        if needed[at] and len(steps[at]) == 4:
+            _, one, other, _ = steps[at]
+            needed[one] = True
+            needed[other] = True
+    return [at for at, is_needed in enumerate(needed) if is_needed]
 
 
-def led_under(proof, sources, path, names):
-    """The number of a STEP whose LITERALS are all contrary to LITERALS of the path.
-
-    It comes from the STEPS of sources, whose CLAUSES no SETTING with the path meets all. They
-    have no names but those of the path and these names; new STEPS are made by these alone.
-    """
-    for step in sources:
-        if all([-literal in path for literal in proof.clauses[step]]):
-            return step
-    name = names[0]
-    unmet = [step for step in sources if name not in proof.clauses[step]]
-    where_true = led_under(proof, unmet, [*path, name], names[1:])
-    if -name not in proof.clauses[where_true]:
-        return where_true
-    unmet = [step for step in sources if -name not in proof.clauses[step]]
-    where_false = led_under(proof, unmet, [*path, -name], names[1:])
-    if name not in proof.clauses[where_false]:
-        return where_false
-    return proof.put_by(where_false, where_true, name)
-
-
-def refutation_by(bundle, numbers):
-    """A REFUTATION that uses none but these CLAUSES, which are at odds."""
-    proof = Proof(bundle)
-    names, _ = bundle
-    return proof.chain_to(led_under(proof, numbers, [], list(range(1, names + 1))))
+def refutation_by(clauses, numbers):
+    """A REFUTATION that uses none but those of the CLAUSES that have these numbers, at odds."""
+    proof = Proof(clauses)
+    fall = Fall([clauses[number] for number in numbers], numbers)
+    return proof.chain_to(proof.led_under(fall, fall.every, fall.names))

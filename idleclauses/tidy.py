@@ -3,7 +3,7 @@
 from idleclauses.bundles import need_bundle, need_number
 from idleclauses.errors import BadTidy
 from idleclauses.forms import is_literal_row, row_of
-from idleclauses.layers import rest_setting, used_names
+from idleclauses.layers import Layers
 from idleclauses.settings import is_tidy, meets, need_setting
 
 MOST_SETTINGS = 20
@@ -49,8 +49,8 @@ def least_tidy(bundle, number):
 
 def greatest_tidy(bundle):
     """A TIDY SETTING that meets all CLAUSES that are not USED, and touches no other ones."""
-    need_bundle(bundle)
-    return rest_setting(bundle, used_names(bundle))
+    names, clauses = need_bundle(bundle)
+    return Layers(clauses).rest_setting(names)
 
 
 def followed_by(bundle, one, other):

@@ -14,9 +14,9 @@ from tests.opinions import clause_by, is_number, is_refuted_by, is_row, uses_of
 from tests.opinions_names import paired_bundles, short_bundles
 
 # The most LEAST LOTS that a search for a BUNDLE with many of them came to.
-MANY = (5, (
-    (-3,), (-2,), (-2, -5), (-1,), (-1, 2), (-1, 3), (1, 2, -4, -5), (1, 2, 3, 4, -5), (1, 3, 4),
-    (1, 3, 4, -5), (1, 5), (2, -4, -5), (2, -3), (2, -3, -5), (2, 3, -4, -5), (5,),
+MANY = (6, (
+    (-6,), (-5,), (-4, -6), (-2, -5), (-2, -3, -4, 6), (-1, -2, -3, -4, 5, 6), (-1, -2, -3, -4, 6),
+    (-1, -2, 3, -4, 5), (-1, -2, 3, -4, 5, 6), (-1, 2), (-1, 3, 5), (1,), (1, 6), (2,), (4,), (4, 5),
 ))
 
 
