@@ -71,6 +71,8 @@ def crossed(bundle, lot):
 def crossed_by(bundle, lot):
     """What is a BUNDLE CROSSED by what is a LOT."""
     names, clauses = bundle
+    if lot == ():
+        return names, tuple([clause for clause in clauses if clause != ()])
     shorter = [without_names(clause, lot) for clause in clauses]
     return gathered(names, [clause for clause in shorter if clause != ()])
 

@@ -101,7 +101,7 @@ class Singles(Proof):
     """A Proof with STEPS that have one LITERAL alone, of the names of USED CLAUSES, as asked for."""
 
     def __init__(self, layers):
-        Proof.__init__(self, layers.clauses)
+        Proof.__init__(self, layers.clauses, list(range(len(layers.clauses))))
         self.clauses = layers.clauses
         self.layers = layers.layers
         self.falls = {}

@@ -25,11 +25,11 @@ class Fall:
 
 
 class Proof:
-    """STEPS over CLAUSES, and the bits of theirs; the first STEPS are the CLAUSES, in their order."""
+    """STEPS, and the bits of their CLAUSES; the first ones are those of CLAUSES with some numbers."""
 
-    def __init__(self, clauses):
-        self.steps = [("clause", number) for number in range(len(clauses))]
-        self.led = [bits_of(clause) for clause in clauses]
+    def __init__(self, clauses, numbers):
+        self.steps = [("clause", number) for number in numbers]
+        self.led = [bits_of(clauses[number]) for number in numbers]
 
     def put_by(self, one, other, literal):
         """The number of a new STEP by a LITERAL, which the first STEP has, the other one contrary."""
@@ -130,6 +130,6 @@ def needed_steps(steps):
 
 def refutation_by(clauses, numbers):
     """A REFUTATION that uses none but those of the CLAUSES that have these numbers, at odds."""
-    proof = Proof(clauses)
-    fall = Fall([clauses[number] for number in numbers], numbers)
+    proof = Proof(clauses, numbers)
+    fall = Fall([clauses[number] for number in numbers], list(range(len(numbers))))
     return proof.chain_to(proof.led_under(fall, fall.every, fall.names))
