@@ -2,10 +2,9 @@
 
 from idleclauses.bundles import need_bundle, need_numbers
 from idleclauses.errors import BadNumber
-from idleclauses.forms import MOST_NAMES, is_name, names_of
+from idleclauses.forms import MOST_NAMES, is_name, names_of, row_of
 from idleclauses.leastlots import all_least
 from idleclauses.matchings import more_by
-from idleclauses.proofs import joined
 
 
 def put(bundle, numbers, name):
@@ -31,8 +30,9 @@ def _put(clauses, thing):
     contrary = [clause for clause in clauses if -thing in clause]
     if len(straight) != 1 or len(contrary) != 1:
         return None
-    put_there = joined(straight[0], contrary[0], thing)
-    if put_there is None or put_there in clauses:
+    both = [literal for literal in straight[0] + contrary[0] if abs(literal) != thing]
+    put_there = row_of(sorted(set(both)))
+    if any([-literal in both for literal in both]) or put_there in clauses:
         return None
     others = [clause for clause in clauses if clause not in (straight[0], contrary[0])]
     return tuple(sorted([*others, put_there]))

@@ -1,7 +1,6 @@
 """STEPS that are made one after another, and what leads from CLAUSES at odds to ()."""
 
 from idleclauses.codes import LITERAL_BITS, bits_of
-from idleclauses.forms import row_of
 
 NAMES = (1, 2, 3, 4, 5, 6, 7)
 
@@ -103,17 +102,6 @@ class Proof:
         if not self.has(where_false, name):
             return where_false
         return self.put_by(where_false, where_true, name)
-
-
-def joined(one, other, name):
-    """The CLAUSE that two CLAUSES have by a name, or None if a STEP by it cannot be made."""
-    if name not in one or -name not in other:
-        return None
-    rest = [literal for literal in one if literal != name]
-    if any([-literal in other for literal in rest]):
-        return None
-    further = [literal for literal in other if literal != -name and literal not in rest]
-    return row_of(rest + further)
 
 
 def needed_steps(steps):
