@@ -30,8 +30,12 @@ def _followers(clauses, literal):
 
 def reached_bits(clauses):
     """For each LITERAL the bits of those to which a way of one pair or more leads."""
-    rows = [bits_of(clause) for clause in clauses]
-    reached = {literal: _followers_bits(rows, LITERAL_BITS[literal]) for literal in LITERALS}
+    beside = {literal: 0 for literal in LITERALS}
+    for clause in clauses:
+        row = bits_of(clause)
+        for literal in clause:
+            beside[literal] |= row ^ LITERAL_BITS[literal]
+    reached = {literal: contrary_bits(bits) for literal, bits in beside.items()}
     for between in LITERALS:
         bit = LITERAL_BITS[between]
         further = reached[between]
@@ -39,12 +43,3 @@ def reached_bits(clauses):
             reached = {literal: bits | further if bits & bit else bits
                        for literal, bits in reached.items()}
     return reached
-
-
-def _followers_bits(rows, bit):
-    """The bits of the contrary ones of all LITERALS that stand beside this one."""
-    beside = 0
-    for row in rows:
-        if row & bit:
-            beside |= row ^ bit
-    return contrary_bits(beside)
