@@ -89,6 +89,13 @@ def without(bundle, number):
     return names, clauses[:number] + clauses[number + 1:]
 
 
+def without_all(bundle, numbers):
+    """The BUNDLE without the CLAUSES of these numbers."""
+    need_numbers(bundle, numbers)
+    names, clauses = bundle
+    return names, tuple([clause for at, clause in enumerate(clauses) if at not in numbers])
+
+
 def put_to(bundle, clause):
     """The BUNDLE with a further CLAUSE; itself if the CLAUSE is there."""
     need_clause(bundle, clause)

@@ -103,5 +103,9 @@ def whole_setting_beside(names, codes):
     free = ALL_CODES & ~codes
     if free == 0:
         return None
-    code = (free & -free).bit_length() - 1
+    return setting_with_code(names, (free & -free).bit_length() - 1)
+
+
+def setting_with_code(names, code):
+    """The whole SETTING of so many names that has this code."""
     return tuple([name if code >> name - 1 & 1 else -name for name in range(1, names + 1)])

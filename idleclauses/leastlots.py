@@ -3,7 +3,7 @@
 from idleclauses.bundles import need_bundle, need_numbers
 from idleclauses.chains import refutation_uses
 from idleclauses.codes import (
-    ALL_CODES, how_many, missed_codes, others_together, together, whole_setting_beside,
+    ALL_CODES, missed_codes, others_together, together, whole_setting_beside,
 )
 from idleclauses.errors import BadPaper, TooMany
 from idleclauses.forms import is_integer, is_literal_row
@@ -11,6 +11,7 @@ from idleclauses.layers import least_part
 from idleclauses.matchings import more_by
 from idleclauses.proofs import refutation_by
 from idleclauses.settings import meets
+from idleclauses.unmet import unmet_rows
 
 MOST_LOTS = 300
 # How many things the PAPER with a word has, the word among them.
@@ -47,28 +48,9 @@ def least_lots(bundle):
 def all_least(bundle):
     """The ascending tuple of all LEAST LOTS of what is a BUNDLE."""
     _, clauses = bundle
-    search = Search(_unmet_rows(bundle), len(clauses))
+    search = Search(unmet_rows(bundle), len(clauses))
     search.look_further((), [], 0, (1 << len(clauses)) - 1)
     return tuple(sorted(search.found))
-
-
-def _unmet_rows(bundle):
-    """The numbers of CLAUSES that a whole SETTING does not meet, as bits, for each; fewest first.
-
-    LEAST LOTS are the least ones that have a number in common with each of these.
-    """
-    names, clauses = bundle
-    rows = [(1 << len(clauses)) - 1]
-    for name in range(1, names + 1):
-        straight = _bits_without(clauses, name)
-        contrary = _bits_without(clauses, -name)
-        rows = sorted({row & kept for row in rows for kept in (straight, contrary)})
-    return sorted(rows, key=how_many)
-
-
-def _bits_without(clauses, literal):
-    """The numbers of the CLAUSES that do not have a LITERAL, as bits."""
-    return sum([1 << at for at, clause in enumerate(clauses) if literal not in clause])
 
 
 class Search:

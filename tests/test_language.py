@@ -30,6 +30,19 @@ INTERFACE = {
     "plainlots": "put does_end_well plain_row plain_lots",
     "counts": "are_clashing count count_paper check_count",
     "servedlots": "is_served greatest_served residue served_paper check_served",
+    "terms": "need_term bundle_of kids_of",
+    "made": "set_to merged both_of beside_of either_of",
+    "easings": (
+        "is_easing least_easings least_cost cheapest_easing cost_paper check_cost limit_of"
+    ),
+    "bench": "Bench under",
+}
+# What each class has in its own body, beside what it begins with.
+METHODS = {
+    "bench": {
+        "Bench": "bundle kernel_now put strike settle undo copy trial __len__ __eq__",
+        "Trial": "__enter__ __exit__",
+    },
 }
 BUILTINS = (
     "len range enumerate zip min max sum abs sorted reversed int str bool bytes list tuple dict set "
@@ -43,7 +56,7 @@ LIBRARY = {
     "math": "gcd lcm isqrt comb perm factorial",
     "itertools": "product combinations permutations",
 }
-# Generator expressions go nowhere once a class has an __eq__, which a Bench will have.
+# Generator expressions go nowhere where a class has an __eq__, as Bench has.
 BARRED = (
     ast.Global, ast.AsyncFunctionDef, ast.AsyncFor, ast.AsyncWith, ast.Await, ast.Div, ast.Import,
     ast.GeneratorExp,
@@ -138,6 +151,15 @@ class Code(unittest.TestCase):
         for module, names in INTERFACE.items():
             for name in names.split():
                 self.assertIn(name, self.defined(module))
+
+    def test_methods(self):
+        for module, classes in METHODS.items():
+            tree = ast.parse((FOLDER / f"{module}.py").read_text("utf-8"))
+            found = {node.name: [part.name for part in node.body if isinstance(part, ast.FunctionDef)]
+                     for node in tree.body if isinstance(node, ast.ClassDef)}
+            for name, methods in classes.items():
+                for method in methods.split():
+                    self.assertIn(method, found[name], module)
 
     def test_names(self):
         for path, tree in trees():
