@@ -3,6 +3,19 @@
 import unittest
 
 from idleclauses import errors
+from idleclauses.bench import Bench
+from idleclauses.bundles import crossed, need_bundle, need_clause, put_to, without
+from idleclauses.chains import uses
+from idleclauses.easings import least_cost
+from idleclauses.following import answer_paper
+from idleclauses.halves import rounded, tidy_by
+from idleclauses.kernels import check_kernel
+from idleclauses.matchings import more_of, setting_by
+from idleclauses.settings import met
+from idleclauses.shelf import Shelf
+from idleclauses.terms import need_term
+from idleclauses.texts import read_term
+from idleclauses.tidy import peeled
 from tests.helper import odd_integers, odd_things, odd_tuples
 
 REFUSED = {
@@ -87,6 +100,44 @@ class Attributes(unittest.TestCase):
             other = kind(*[2 for _ in fields])
             self.assertEqual([getattr(one, field) for field in fields], [1] * len(fields))
             self.assertEqual([getattr(other, field) for field in fields], [2] * len(fields))
+
+
+AB = (2, ((-1, 2), (1,)))
+CUBE = (3, tuple((a, b, c) for a in (-1, 1) for b in (-2, 2) for c in (-3, 3)))
+FULL = (5, tuple(sorted((a, b) for a in (1, -1, 2, -2) for b in (3, -3, 4, -4))))
+CALLS = {
+    "BadBundle": (need_bundle, 5), "BadPaper": (check_kernel, AB, 5), "BadChain": (uses, AB, 5),
+    "BadTidy": (peeled, AB, 5), "BadSetting": (met, AB, 5), "BadNumber": (without, AB, 5),
+    "BadLot": (crossed, AB, 5), "BadClause": (need_clause, AB, 5), "BadHalves": (tidy_by, AB, 5),
+    "BadWeighing": (rounded, AB, 5), "BadNumbers": (more_of, AB, 5), "BadMatching": (setting_by, AB, 5),
+    "BadPrices": (least_cost, AB, 5), "BadLabel": (Shelf().put, 5, 5), "BadTerm": (need_term, 5),
+    "Unweighed": (answer_paper, CUBE), "BadText": (read_term, 5), "TooMany": (put_to, FULL, ()),
+    "NothingLeft": (Bench(AB).undo, 5), "Missing": (Shelf().seek, 5),
+}
+
+
+class Raised(unittest.TestCase):
+    def test_each_class_is_raised_somewhere(self):
+        self.assertEqual(set(CALLS), {kind.__name__ for kind, _ in kinds()})
+
+    def test_caught_by_its_name_and_by_each_class_above(self):
+        for kind, fields in kinds():
+            action, *given = CALLS[kind.__name__]
+            for caught in kind.__mro__[:-1]:
+                with self.assertRaises(caught) as told:
+                    action(*given)
+                self.assertIs(told.exception.__class__, kind)
+                self.assertEqual(list(vars(told.exception)), list(fields))
+
+    def test_given_is_the_very_thing(self):
+        for kind, fields in kinds():
+            if fields == ("given",):
+                action, *given = CALLS[kind.__name__]
+                thing = ["x"]
+                given = [thing if item == 5 else item for item in given]
+                with self.assertRaises(kind) as told:
+                    action(*given)
+                self.assertIs(told.exception.given, thing)
 
 
 if __name__ == "__main__":

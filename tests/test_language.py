@@ -36,6 +36,10 @@ INTERFACE = {
         "is_easing least_easings least_cost cheapest_easing cost_paper check_cost limit_of"
     ),
     "bench": "Bench under",
+    "shelf": "Shelf",
+    "texts": "term_text bundle_text read_term read_bundle",
+    "judge": "judged",
+    "desk": "Desk",
 }
 # What each class has in its own body, beside what it begins with.
 METHODS = {
@@ -43,6 +47,8 @@ METHODS = {
         "Bench": "bundle kernel_now put strike settle undo copy trial __len__ __eq__",
         "Trial": "__enter__ __exit__",
     },
+    "shelf": {"Shelf": "__init__ put take seek stronger labels alike __len__ __contains__ __eq__"},
+    "desk": {"Desk": "__init__ bench say"},
 }
 BUILTINS = (
     "len range enumerate zip min max sum abs sorted reversed int str bool bytes list tuple dict set "
