@@ -191,6 +191,14 @@ class Stronger(ShelfCase):
         self.assert_told((), shelf.stronger, "a")
         self.assert_told(("c",), shelf.stronger, "b")
 
+    def test_one_that_was_taken_away_is_none_of_them(self):
+        shelf = filled(["b", "a", "c"])
+        shelf.take("c")
+        self.assert_told(("b",), shelf.stronger, "a")
+        self.assert_told((("a", "b"),), shelf.alike)
+        shelf.put("c", B)
+        self.assert_told(("b",), shelf.stronger, "a")
+
     def test_by_all_whole_settings(self):
         told = 0
         for rows in drawn_shelves():

@@ -121,7 +121,7 @@ class ReadTerm(TextCase):
 
     def test_integers(self):
         for word in ("-0", "00", "01", "-01", "+1", "1.0", "1e1", "1_0", "", "-", "--1", "0x1", "one", "1-", "- 1",
-                     "9" * 32, "-" + "9" * 32, "0" * 31, " ", "\t", "1\t"):
+                     "9" * 32, "-" + "9" * 32, "0" * 31, " ", "\t", "1\t", "\u0663", "\u00b2", "1\u0663"):
             self.assert_bad_text(0, 1, read_term, f"clause {word} 0")
             self.assert_bad_text(0, 3, read_term, f"clause 1 1 {word}")
             self.assert_bad_text(0, 1, read_term, f"merged {word} 2 clause 2 0")
