@@ -2,16 +2,16 @@
 
 from idleclauses.errors import BadBundle, BadClause, BadLot, BadNumber, BadNumbers, TooMany
 from idleclauses.forms import (
-    MOST_CLAUSES, gathered, is_index, is_literal_row, is_lot, is_names, is_numbers, is_pair,
+    MOST_CLAUSES, MOST_NAMES, gathered, is_index, is_literal_row, is_lot, is_numbers,
 )
 
 
 def need_bundle(thing):
     """Itself, if it is a BUNDLE."""
-    if not is_pair(thing):
+    if not isinstance(thing, tuple) or len(thing) != 2:
         raise BadBundle("form")
     names, clauses = thing
-    if not is_names(names):
+    if not isinstance(names, int) or names is True or not 1 <= names <= MOST_NAMES:
         raise BadBundle("names")
     if not isinstance(clauses, tuple) or len(clauses) > MOST_CLAUSES:
         raise BadBundle("clauses")
@@ -21,14 +21,49 @@ def need_bundle(thing):
     return thing
 
 
+# Nearly each call of the package begins with this one. So it goes through the CLAUSES once, calls
+# nothing for each of them, and takes those of two to four LITERALS apart, as most are. It compares
+# squares, which ascend where NAMES do. They let a 0 pass that stands first, and a True that stands
+# first or behind such a 0; so these two are asked for last. () counts as if it began with -8.
 def _first_wrong(names, clauses):
     """The number of the first thing that is no CLAUSE, or out of order, or None."""
-    for at, clause in enumerate(clauses):
-        if not is_literal_row(names, clause):
-            return at
-        if at > 0 and clause <= clauses[at - 1]:
-            return at
-    return None
+    least, before, most = -9, None, names * names
+    left = iter(clauses)
+    for clause in left:
+        if not isinstance(clause, tuple):
+            break
+        size = len(clause)
+        if size == 2:
+            one, other = clause
+            if not (isinstance(one, int) and isinstance(other, int) and one * one < other * other <= most):
+                break
+        elif size == 3:
+            one, other, third = clause
+            if not (isinstance(one, int) and isinstance(other, int) and isinstance(third, int)
+                    and one * one < other * other < third * third <= most):
+                break
+        elif size == 4:
+            one, other, third, fourth = clause
+            if not (isinstance(one, int) and isinstance(other, int) and isinstance(third, int)
+                    and isinstance(fourth, int)
+                    and one * one < other * other < third * third < fourth * fourth <= most):
+                break
+        elif size > names:
+            break
+        else:
+            one, last = clause[0] if clause else -8, 0
+            for literal in clause:
+                if not isinstance(literal, int) or last >= (last := literal * literal):
+                    last = most + 1
+                    break
+            if last > most:
+                break
+        if one <= least and clause <= before or one is True or not one:
+            break
+        least, before = one, clause
+    else:
+        return None
+    return len(clauses) - 1 - len([*left])
 
 
 def need_clause(bundle, thing):
@@ -39,9 +74,8 @@ def need_clause(bundle, thing):
     return thing
 
 
-def need_lot(bundle, thing):
-    """Itself, if it is a LOT of the names of the BUNDLE."""
-    names, _ = need_bundle(bundle)
+def need_lot(names, thing):
+    """Itself, if it is a LOT of these NAMES."""
     if not is_lot(names, thing):
         raise BadLot(thing)
     return thing
@@ -65,7 +99,8 @@ def need_numbers(bundle, thing):
 
 def crossed(bundle, lot):
     """The BUNDLE CROSSED by a LOT: its names struck out, and () left out."""
-    return crossed_by(bundle, need_lot(bundle, lot))
+    names, _ = need_bundle(bundle)
+    return crossed_by(bundle, need_lot(names, lot))
 
 
 def crossed_by(bundle, lot):

@@ -4,17 +4,18 @@ from idleclauses.bundles import need_bundle
 from idleclauses.codes import (
     LITERAL_BITS, bits_of, contrary_bits, missed_by_clauses, row_of_bits, whole_setting_beside,
 )
-from idleclauses.errors import BadLot, BadPaper, Unweighed
-from idleclauses.forms import is_literal_row, is_name, is_integer, is_worded_pair
+from idleclauses.errors import BadLot, BadPaper, BadSetting, Unweighed
+from idleclauses.forms import is_integer, is_literal_row, is_lot, is_name, is_worded_pair
 from idleclauses.halves import clashing_hefts
-from idleclauses.readings import is_plain
-from idleclauses.settings import meets, need_setting
+from idleclauses.readings import are_plain
+from idleclauses.settings import meets
 
 
 def followed(bundle, setting):
     """The SETTING that is left when one is followed, None if it falls."""
-    need_setting(bundle, setting)
-    _, clauses = bundle
+    names, clauses = need_bundle(bundle)
+    if not is_literal_row(names, setting):
+        raise BadSetting(setting)
     true = _followed_bits(_rows(clauses), bits_of(setting))
     if true is None:
         return None
@@ -96,9 +97,9 @@ def _is_whole_answer(bundle, thing):
 
 def least_setting(bundle, lot):
     """The least whole SETTING by a PLAIN READING that meets all CLAUSES, None if at odds."""
-    if not is_plain(bundle, lot):
+    names, clauses = need_bundle(bundle)
+    if not is_lot(names, lot) or not are_plain(clauses, lot):
         raise BadLot(lot)
-    names, clauses = bundle
     true = _followed_bits(_rows(clauses), 0)
     if true is None:
         return None

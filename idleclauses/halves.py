@@ -29,13 +29,6 @@ def _weight_of(clause, whole, row):
                 for literal in clause])
 
 
-def need_halves(bundle, thing):
-    """Itself, if it is HALVES of the BUNDLE."""
-    if not are_halves(bundle, thing):
-        raise BadHalves(thing)
-    return thing
-
-
 def all_halves(bundle):
     """The ascending tuple of all HALVES."""
     names, clauses = need_bundle(bundle)
@@ -166,6 +159,8 @@ def _hefts_with(clauses, hefts, literal):
 
 def tidy_by(bundle, row):
     """The SETTING that makes true the LITERALS that weigh 0 by HALVES."""
-    need_halves(bundle, row)
+    need_bundle(bundle)
+    if not _is_row(bundle, 2, row):
+        raise BadHalves(row)
     return tuple([name if weight == 0 else -name for name, weight in enumerate(row, 1)
                   if weight != 1])

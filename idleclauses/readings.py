@@ -1,6 +1,7 @@
 """READINGS: names read the other way, so that CLAUSES become plain, and the PAPERS on it."""
 
 from idleclauses.bundles import need_bundle, need_lot
+from idleclauses.codes import ALL_CODES, FALSE_CODES, bits_of, contrary_bits, together
 from idleclauses.errors import BadPaper
 from idleclauses.forms import gathered, is_index, is_literal, is_lot, is_pair, is_worded_pair
 from idleclauses.ways import shortest_way
@@ -8,8 +9,8 @@ from idleclauses.ways import shortest_way
 
 def read_by(bundle, lot):
     """The BUNDLE READ by a READING: names of the LOT are turned."""
-    need_lot(bundle, lot)
-    names, clauses = bundle
+    names, clauses = need_bundle(bundle)
+    need_lot(names, lot)
     return gathered(names, [_turned(clause, lot) for clause in clauses])
 
 
@@ -20,41 +21,68 @@ def _turned(clause, lot):
 
 def is_plain(bundle, lot):
     """Whether each CLAUSE has at most one LITERAL that is UP by a READING."""
-    need_lot(bundle, lot)
-    return _crowded(_signs_of(bundle), lot) == 0
+    names, clauses = need_bundle(bundle)
+    need_lot(names, lot)
+    return are_plain(clauses, lot)
 
 
-def _signs_of(bundle):
-    """For each CLAUSE its names and its contrary LITERALS, as bits of two integers."""
-    _, clauses = bundle
-    return [(_name_bits([literal for literal in clause if literal > 0]),
-             _name_bits([-literal for literal in clause if literal < 0])) for clause in clauses]
-
-
-def _name_bits(lot):
-    """The names as bits of an integer."""
-    return sum([1 << name for name in lot])
-
-
-def _crowded(signs, lot):
-    """How many CLAUSES have two LITERALS UP or more."""
-    turned = _name_bits(lot)
-    ups = [straight & ~turned | contrary & turned for straight, contrary in signs]
+def are_plain(clauses, lot):
+    """Whether each of these CLAUSES has at most one LITERAL that is UP by a READING."""
+    turned = bits_of(lot)
+    # The bits of all names that are not turned, and of the contrary LITERALS of those that are.
+    ups = 127 & ~turned | contrary_bits(turned)
+    rows = [bits_of(clause) & ups for clause in clauses]
     # One less clears the lowest bit, so that something is left of two bits or more.
-    return len([bits for bits in ups if bits & bits - 1])
+    return all([row & row - 1 == 0 for row in rows])
 
 
-def _all_readings(names):
-    """All READINGS, ascending."""
+def _readings_with(names, codes):
+    """The ascending tuple of the READINGS of so many names that have these codes.
+
+    A READING has the code of the whole SETTING by which just the turned names are true.
+    """
     lots = [()]
     for name in range(1, names + 1):
         lots = lots + [(*lot, name) for lot in lots]
-    return sorted(lots)
+    return tuple(sorted([lot for code, lot in enumerate(lots) if codes >> code & 1]))
+
+
+def _crowded_codes(clause):
+    """The codes of the READINGS by which a CLAUSE has two LITERALS UP or more, as bits."""
+    one = more = 0
+    for literal in clause:
+        # A LITERAL is UP by a READING exactly if it is false by the SETTING of the same code.
+        up = FALSE_CODES[literal]
+        more |= one & up
+        one |= up
+    return more
+
+
+def _rarest_codes(parts):
+    """The codes that are among the fewest of some bits, as bits."""
+    # How often each code is among them, in binary digits, the lowest ones first.
+    digits = [0, 0, 0, 0, 0]
+    for bits in parts:
+        carried = bits
+        for at, digit in enumerate(list(digits)):
+            digits[at] = digit ^ carried
+            carried &= digit
+    rarest = ALL_CODES
+    for digit in reversed(digits):
+        if rarest & ~digit != 0:
+            rarest &= ~digit
+    return rarest
 
 
 def plain_reading(bundle):
     """The first one of all PLAIN READINGS, None without one."""
-    readings = all_plain(bundle)
+    need_bundle(bundle)
+    return _first_plain(bundle)
+
+
+def _first_plain(bundle):
+    """The first one of all PLAIN READINGS of what is a BUNDLE, None without one."""
+    readings = _plain_readings(bundle)
     if readings == ():
         return None
     return readings[0]
@@ -62,21 +90,28 @@ def plain_reading(bundle):
 
 def all_plain(bundle):
     """The ascending tuple of all PLAIN READINGS."""
-    names, _ = need_bundle(bundle)
-    signs = _signs_of(bundle)
-    return tuple([lot for lot in _all_readings(names) if _crowded(signs, lot) == 0])
+    need_bundle(bundle)
+    return _plain_readings(bundle)
+
+
+def _plain_readings(bundle):
+    """The ascending tuple of all PLAIN READINGS of what is a BUNDLE."""
+    names, clauses = bundle
+    crowded = together([_crowded_codes(clause) for clause in clauses])
+    return _readings_with(names, ALL_CODES & ~crowded)
 
 
 def nearest_reading(bundle):
     """The first one of the READINGS by which the fewest CLAUSES have two LITERALS UP or more."""
-    names, _ = need_bundle(bundle)
-    signs = _signs_of(bundle)
-    return min(_all_readings(names), key=lambda lot: _crowded(signs, lot))
+    names, clauses = need_bundle(bundle)
+    rarest = _rarest_codes([_crowded_codes(clause) for clause in clauses])
+    return _readings_with(names, rarest)[0]
 
 
 def reading_paper(bundle):
     """The PAPER on whether there is a PLAIN READING."""
-    lot = plain_reading(bundle)
+    need_bundle(bundle)
+    lot = _first_plain(bundle)
     if lot is None:
         return "ring", _ring(bundle)
     return "plain", lot
@@ -99,11 +134,11 @@ def _ring(bundle):
 
 def check_reading(bundle, paper):
     """The first word of a PAPER on whether there is a PLAIN READING, if it holds."""
-    names, _ = need_bundle(bundle)
+    names, clauses = need_bundle(bundle)
     if not is_worded_pair(("plain", "ring"), paper):
         raise BadPaper("form")
     word, thing = paper
-    if word == "plain" and not (is_lot(names, thing) and is_plain(bundle, thing)):
+    if word == "plain" and not (is_lot(names, thing) and are_plain(clauses, thing)):
         raise BadPaper("plain")
     if word == "ring" and not _is_ring(bundle, thing):
         raise BadPaper("ring")

@@ -9,8 +9,8 @@ from idleclauses.pairings import are_all_paired, paired, spread
 
 def is_served(bundle, lot):
     """Whether a LOT of names is SERVED."""
-    need_lot(bundle, lot)
-    _, clauses = bundle
+    names, clauses = need_bundle(bundle)
+    need_lot(names, lot)
     parts = [[literal for literal in clause if abs(literal) in lot] for clause in clauses]
     return are_all_paired([part for part in parts if part])
 

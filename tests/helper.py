@@ -2,9 +2,10 @@
 
 import itertools
 import random
+import sys
 import unittest
 
-from idleclauses.errors import BadBundle, BadPaper
+from idleclauses.errors import BadBundle, BadPaper, ClauseError
 
 
 class Plain:
@@ -133,6 +134,49 @@ def named_bundles():
         (5, ((-2, -4), (-2, -3, 4), (-2, 4), (-1, -2, 5), (-1, 2, -4), (-1, 2, -3), (-1, 2, 4),
              (1, -2, -5), (1, 4), (2, -3, -5), (2, -3, 5), (3, -4), (3, 4), (3, 5))),
     ]
+
+
+def some_numbers(state, many):
+    """The next state, and so many numbers, by a rule that mixes them well enough."""
+    found = []
+    for _ in range(many):
+        state = (state * 6364136223846793005 + 1442695040888963407) % 2 ** 64
+        found.append(state >> 33)
+    return state, found
+
+
+def lines_run(action, *given):
+    """How many lines of the program a call runs, also if it refuses what it is given.
+
+    This does not hang on the machine, as the time of a call would.
+    """
+    many = 0
+
+    def step(_frame, event, _given):
+        nonlocal many
+        many += event == "line"
+        return step
+
+    ahead = sys.gettrace()
+    sys.settrace(step)
+    try:
+        action(*given)
+    except ClauseError:
+        pass
+    finally:
+        sys.settrace(ahead)
+    return many
+
+
+def refused_part(action, *given):
+    """The part for which a call refuses a BUNDLE, None if it does not."""
+    try:
+        action(*given)
+    except BadBundle as error:
+        return error.part
+    except ClauseError:
+        pass
+    return None
 
 
 def does_touch(setting, clause):

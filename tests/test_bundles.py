@@ -1,12 +1,13 @@
 """The functions of idleclauses.bundles: points [1] and [2], and [7], its first sentence."""
 
+import itertools
 import unittest
 
 from idleclauses.bundles import crossed, need_bundle, need_clause, put_to, without
 from idleclauses.errors import BadBundle, BadClause, BadLot, BadNumber, TooMany
 from tests.helper import (
-    Case, all_lots, all_rows, odd_integers, odd_things, odd_tuples, small_bundles, some_bundles,
-    wrong_bundles,
+    Case, all_lots, all_rows, odd_integers, odd_things, odd_tuples, refused_part, small_bundles,
+    some_bundles, wrong_bundles,
 )
 
 EMPTY = (1, ())
@@ -59,6 +60,54 @@ class NeedBundle(Case):
                     self.assertIs(need_bundle(bundle), bundle)
                 else:
                     self.assert_refused(BadBundle, "part", 1, need_bundle, bundle)
+
+    def test_order_of_each_two_of_five_names_and_three_of_three(self):
+        for names, many in ((5, 2), (3, 3)):
+            for rows in itertools.product(all_rows(names), repeat=many):
+                late = [at for at in range(1, many) if rows[at] <= rows[at - 1]]
+                self.assertEqual(refused_part(need_bundle, (names, rows)), late[0] if late else None, rows)
+
+    def test_each_wrong_literal_at_each_place(self):
+        wrong = odd_things() + odd_integers() + [0, 8, (), (1,), 2j]
+        for size in range(1, 8):
+            for right in (tuple(range(1, size + 1)), tuple(-name for name in range(8 - size, 8))):
+                for at in range(size):
+                    for thing in wrong:
+                        row = right[:at] + (thing,) + right[at + 1:]
+                        self.assert_no_clause(7, row)
+
+    def test_names_ascend_at_each_place(self):
+        for size in range(2, 8):
+            for signs in itertools.product((1, -1), repeat=size):
+                row = tuple(name * sign for name, sign in enumerate(signs, 8 - size))
+                self.assertIsNone(refused_part(need_bundle, (7, (row,))))
+                for at in range(1, size):
+                    self.assert_no_clause(7, row[:at] + (row[at - 1],) + row[at + 1:])
+                    self.assert_no_clause(7, row[:at] + (-row[at - 1],) + row[at + 1:])
+                    self.assert_no_clause(7, row[:at - 1] + (row[at], row[at - 1]) + row[at + 1:])
+
+    def test_names_of_the_bundle_at_each_size(self):
+        for names in range(1, 7):
+            for size in range(1, names + 2):
+                row = tuple(range(names - size + 2, names + 2))
+                self.assert_no_clause(names, row)
+                self.assert_no_clause(names, tuple(-name for name in row))
+        for size in (8, 9, 60, 20000):
+            self.assert_no_clause(7, tuple(range(1, size + 1)))
+
+    def test_true_and_false_at_each_size(self):
+        for size in range(1, 8):
+            row = tuple(range(1, size + 1))
+            for thing in (True, False):
+                self.assert_no_clause(7, (thing,) + row[1:])
+                self.assert_no_clause(7, (0, thing) + row[2:])
+                self.assert_no_clause(7, (thing, thing) + row[2:])
+
+    def assert_no_clause(self, names, row):
+        """It is refused, alone and behind others."""
+        for ahead in ((), ((),), ((), (-1,)), ((-1,), (1,))):
+            found = refused_part(need_bundle, (names, ahead + (row,)))
+            self.assertEqual(repr(found), repr(len(ahead)), f"{names} {row!r:.300}")
 
     def test_sixteen_but_not_seventeen(self):
         rows = sorted(all_rows(3))

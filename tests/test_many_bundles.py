@@ -1,14 +1,15 @@
 """Many small BUNDLES asked for all that idleclauses.kernels tells, and how many lines that runs."""
 
 import functools
-import sys
 import unittest
 
 from idleclauses.chains import clauses_of, uses
 from idleclauses.kernels import (
     always_used, check_kernel, check_used, kernel, kernel_paper, single_chain, used_paper,
 )
-from tests.helper import all_rows, does_meet, does_touch, whole_settings
+from tests.helper import (
+    all_rows, does_meet, does_touch, lines_run, some_numbers, whole_settings,
+)
 from tests.opinions import chain_read, names_in, uses_of
 
 MANY = 3000
@@ -46,15 +47,6 @@ def at_odds_by(sort, one, other):
     if sort < 2 or one == other:
         return single * sort
     return pairs if sort == 2 else [(other,), (-other,)] + pairs + single
-
-
-def some_numbers(state, many):
-    """The next state, and so many numbers, by a rule that mixes them well enough."""
-    found = []
-    for _ in range(many):
-        state = (state * 6364136223846793005 + 1442695040888963407) % 2 ** 64
-        found.append(state >> 33)
-    return state, found
 
 
 @functools.lru_cache(maxsize=None)
@@ -142,25 +134,6 @@ class ManyBundles(unittest.TestCase):
 
 
 class Lines(unittest.TestCase):
-    """How many lines a call runs does not hang on the machine, as its time would."""
-
-    def lines(self, action, *given):
-        """How many lines of the program a call runs."""
-        many = 0
-
-        def step(_frame, event, _given):
-            nonlocal many
-            many += event == "line"
-            return step
-
-        ahead = sys.gettrace()
-        sys.settrace(step)
-        try:
-            action(*given)
-        finally:
-            sys.settrace(ahead)
-        return many
-
     def test_no_more_than_a_part_of_what_it_was(self):
         # A third, or of the last two a half, of how many lines the calls ran when they were too slow.
         for most, action, given in (
@@ -168,7 +141,7 @@ class Lines(unittest.TestCase):
                 (4700, kernel_paper, (SEVEN,)), (3200, kernel, (SEVEN,)),
                 (2500, used_paper, (FIVE, 0)), (2900, always_used, (FIVE,)), (1800, single_chain, (FIVE, 1)),
                 (1700, kernel_paper, (FIVE,)), (1000, kernel, (FIVE,))):
-            self.assertLessEqual(self.lines(action, *given), most, (action.__name__, given))
+            self.assertLessEqual(lines_run(action, *given), most, (action.__name__, given))
 
 
 if __name__ == "__main__":
