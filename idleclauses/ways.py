@@ -17,6 +17,8 @@ def shortest_way(clauses, start, goal):
             for follower, number in _followers(clauses, literal):
                 if follower not in ways:
                     ways[follower] = (*ways[literal], (literal, number))
+                    if follower == goal:
+                        return ways[goal]
                     further.append(follower)
         newest = further
     return ways.get(goal)
